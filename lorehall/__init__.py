@@ -1,0 +1,1 @@
+"""Lorehall: folk who teach one another, and what is not used wanes."""

@@ -1,0 +1,174 @@
+"""What several tests need: samples, and the document said a second time, slowly.
+
+The slow functions share no code with the package, and hold a stand as a dict
+of (who, thing) to a level, so that a fault in one does not hide in the other.
+"""
+
+import itertools
+import random
+
+FORTY_FIGURES = 10 ** 40 - 1
+
+DEEP_TUPLE = ()
+DEEP_LIST = []
+for _ in range(9):
+    DEEP_TUPLE = (DEEP_TUPLE,)
+    DEEP_LIST = [DEEP_LIST]
+
+# Of each of these it can be asked whether it is a hall, a stand, a beat, a plan.
+ANYTHING = [
+    0, 1, 2, 3, 4, 5, -1, 10 ** 18, 10 ** 18 + 1, FORTY_FIGURES, -FORTY_FIGURES,
+    True, False, None,
+    "", " ", "~", "2", "hall", "x" * 200, "((0, 1, 0),)",
+    [], (), [[]], [()], ([],), ((),), ((), ()), [[], []], DEEP_TUPLE, DEEP_LIST,
+    (1, 2, 3), [1, 2, 3], (None,), (None, None), ("", ""), ("ab", "cd"), (True, False),
+    (0, 1, 0), [(0, 1, 0)], ((0, 1, 0), None), (2,), (2, ()), (2, None), (2, "x"), (2, 3),
+    (2, (1,)), (2, ((),)), (2, [((), 1, 1, 1)]), [2, (((), 1, 1, 1),)], (2, (((), 1, 1, 1),), 0),
+    (FORTY_FIGURES, FORTY_FIGURES, FORTY_FIGURES), ((FORTY_FIGURES,), (FORTY_FIGURES,)),
+    (1, (2, [3, ("four", [None, (True, (FORTY_FIGURES,))])])),
+]
+
+ODD_PARTS = [
+    -1, 0, 1, 2, 3, 4, 5, FORTY_FIGURES, -FORTY_FIGURES, True, False, None, "", "1", "ab",
+    (), [], (0,), [0], (1,), (0, 1), (1, 0), (0, 0), (None,), ("",), (True,), ((),), DEEP_TUPLE,
+]
+
+
+def written(thing):
+    """A text that tells apart what == does not: 1 and True, a tuple and a list."""
+    return repr(thing)
+
+
+def changed(thing):
+    """All that comes of a tuple by putting something odd in the place of one part, or by one part more or less."""
+    for part in ODD_PARTS:
+        yield part
+    if not isinstance(thing, tuple):
+        return
+    yield list(thing)
+    yield thing + thing[-1:]
+    yield thing + (0,)
+    yield thing[1:]
+    yield thing[:-1]
+    yield thing[::-1]
+    for at, part in enumerate(thing):
+        for odd in changed(part):
+            yield thing[:at] + (odd,) + thing[at + 1:]
+
+
+def lores(place):
+    """All that can stand in a hall as its thing at place."""
+    found = []
+    for size in range(place + 1):
+        for needs in itertools.combinations(range(place), size):
+            for cap in (1, 2, 3):
+                for teach in range(1, cap + 1):
+                    for loss in range(0, cap + 1):
+                        found.append((needs, teach, cap, loss))
+    return found
+
+
+def all_halls():
+    """Each hall there is."""
+    for folk in (2, 3, 4):
+        for many in (1, 2, 3):
+            for things in itertools.product(*[lores(place) for place in range(many)]):
+                yield (folk, things)
+
+
+def all_stands(hall):
+    folk, things = hall
+    rows = list(itertools.product(*[range(cap + 1) for _, _, cap, _ in things]))
+    return list(itertools.product(rows, repeat=folk))
+
+
+def all_meetings(hall):
+    folk, things = hall
+    return [
+        (one, other, thing)
+        for one in range(folk) for other in range(folk) if one != other
+        for thing in range(len(things))
+    ]
+
+
+def all_beats(hall, most):
+    """Each beat of at most so many meetings."""
+    found = []
+    for many in range(most + 1):
+        found.extend(itertools.product(all_meetings(hall), repeat=many))
+    return found
+
+
+def some_hall(chance, most_folk=4, most_things=3, most_cap=3):
+    things = []
+    for place in range(chance.randint(1, most_things)):
+        cap = chance.randint(1, most_cap)
+        needs = tuple(need for need in range(place) if chance.random() < 0.5)
+        # Where much is lost at each beat little happens: a small loss is made likelier.
+        loss = min(cap, chance.choice((0, 0, 1, 1, 1, 2, 3)))
+        things.append((needs, chance.randint(1, cap), cap, loss))
+    return (chance.randint(2, most_folk), tuple(things))
+
+
+def some_stand(chance, hall):
+    folk, things = hall
+    return tuple(tuple(chance.randint(0, cap) for _, _, cap, _ in things) for _ in range(folk))
+
+
+def some_beat(chance, hall):
+    return tuple(chance.choice(all_meetings(hall)) for _ in range(chance.randint(0, 4)))
+
+
+def some_plan(chance, hall):
+    return tuple(some_beat(chance, hall) for _ in range(chance.randint(1, 4)))
+
+
+def samples(seed, many, **bounds):
+    """So many (hall, stand, plan), the same ones each time."""
+    chance = random.Random(seed)
+    for _ in range(many):
+        hall = some_hall(chance, **bounds)
+        yield hall, some_stand(chance, hall), some_plan(chance, hall)
+
+
+def no_less(stand, other):
+    return all(a >= b for row, low in zip(stand, other) for a, b in zip(row, low))
+
+
+def slow_beat(hall, stand, beat):
+    """The stand behind a beat, word by word as the document says it."""
+    folk, things = hall
+    level = {(who, thing): stand[who][thing] for who in range(folk) for thing in range(len(things))}
+    used = set()
+    for one, other, thing in beat:
+        needs, teach, cap, _ = things[thing]
+        if level[one, thing] < teach:
+            continue
+        if [need for need in needs if level[other, need] == 0]:
+            continue
+        if level[other, thing] < cap:
+            level[other, thing] += 1
+        used |= {(one, thing), (other, thing)}
+    for who, thing in level:
+        if (who, thing) not in used:
+            level[who, thing] -= min(level[who, thing], things[thing][3])
+    return tuple(tuple(level[who, thing] for thing in range(len(things))) for who in range(folk))
+
+
+def slow_walk(hall, stand, plan, beats):
+    """The stands behind 0, 1 .. beats of the plan."""
+    stands = [stand]
+    for at in range(beats):
+        stands.append(slow_beat(hall, stands[-1], plan[at % len(plan)]))
+    return stands
+
+
+def slow_round(hall, stand, plan):
+    """(first, long), found by walking till a stand comes again at the same beat of the plan."""
+    walked = [(stand, 0)]
+    while True:
+        stand, at = walked[-1]
+        coming = (slow_beat(hall, stand, plan[at]), (at + 1) % len(plan))
+        if coming in walked:
+            return walked.index(coming), len(walked) - walked.index(coming)
+        walked.append(coming)

@@ -1,0 +1,132 @@
+"""The interface's opening section and [2]: which refusal for which argument, and which goes first."""
+
+import copy
+import itertools
+import unittest
+
+from lorehall.beats import by_beat, by_plan, comes_round
+from lorehall.errors import LoreError, NoBeat, NoCount, NoHall, NoPlan, NoStand
+from lorehall.halls import bare, full, is_beat, is_hall, is_plan, is_stand
+from tests.helper import ANYTHING, FORTY_FIGURES, changed, written
+
+ONE = ((), 1, 1, 1)
+HALL = (3, (((), 1, 2, 1), ((0,), 2, 3, 0)))
+STAND = ((2, 3), (1, 0), (0, 1))
+BEAT = ((0, 1, 0), (2, 1, 1))
+PLAN = (BEAT, (), ((1, 0, 0),))
+
+NO_HALLS = ANYTHING + [(1, (ONE,)), (5, (ONE,)), (2, (ONE,) * 4), (True, (ONE,)), (2, (((0,), 1, 1, 1),))]
+NO_STANDS = ANYTHING + [
+    ((2, 3), (1, 0)), STAND + ((0, 0),), ((3, 3), (1, 0), (0, 1)), ((2, 4), (1, 0), (0, 1)),
+    ((2, 3), (1, -1), (0, 1)), ((2, 3), (True, 0), (0, 1)), list(STAND), ((2, 3), [1, 0], (0, 1)),
+]
+NO_BEATS = [thing for thing in ANYTHING if written(thing) != "()"] + [
+    ((0, 0, 0),), ((0, 3, 0),), ((0, 1, 2),), ((0, True, 0),), ((0, 1, 0),) * 5, list(BEAT),
+]
+NO_PLANS = [thing for thing in ANYTHING if written(thing) not in ("((),)", "((), ())")] + [
+    BEAT, ((),) * 5, (((0, 1, 0),) * 5,), (((0, 0, 0),),), (BEAT, [], ()), list(PLAN),
+]
+NO_COUNTS = [thing for thing in ANYTHING if not isinstance(thing, int)] + [
+    -1, 10 ** 18 + 1, FORTY_FIGURES, -FORTY_FIGURES, True, False,
+]
+
+HALLS = (HALL, NO_HALLS, NoHall)
+STANDS = (STAND, NO_STANDS, NoStand)
+BEATS = (BEAT, NO_BEATS, NoBeat)
+PLANS = (PLAN, NO_PLANS, NoPlan)
+COUNTS = (3, NO_COUNTS, NoCount)
+# What is asked about is never refused.
+ASKED = (STAND, [], LoreError)
+
+ASKERS = [
+    (is_stand, [HALLS, ASKED]),
+    (is_beat, [HALLS, ASKED]),
+    (is_plan, [HALLS, ASKED]),
+    (full, [HALLS]),
+    (bare, [HALLS]),
+    (by_beat, [HALLS, STANDS, BEATS]),
+    (by_plan, [HALLS, STANDS, PLANS, COUNTS]),
+    (comes_round, [HALLS, STANDS, PLANS]),
+]
+
+
+class TestRefusals(unittest.TestCase):
+    def refused(self, kind, ask, *handed):
+        try:
+            told = ask(*handed)
+        except LoreError as refusal:
+            self.assertIs(type(refusal), kind, (ask.__name__, handed))
+        else:
+            self.fail((ask.__name__, handed, told))
+
+    def test_nothing_is_refused_that_is_right(self):
+        for ask, places in ASKERS:
+            ask(*[good for good, _, _ in places])
+
+    def test_each_alone(self):
+        for ask, places in ASKERS:
+            for at, (_, wrong, kind) in enumerate(places):
+                for thing in wrong:
+                    handed = [good for good, _, _ in places]
+                    handed[at] = thing
+                    self.refused(kind, ask, *handed)
+
+    def test_the_first_goes_first(self):
+        for ask, places in ASKERS:
+            wrongs = [at for at, (_, wrong, _) in enumerate(places) if wrong]
+            for many in range(1, len(wrongs) + 1):
+                for chosen in itertools.combinations(wrongs, many):
+                    for turn in range(60):
+                        handed = [
+                            wrong[(turn * (at + 3)) % len(wrong)] if at in chosen else good
+                            for at, (good, wrong, _) in enumerate(places)
+                        ]
+                        self.refused(places[chosen[0]][2], ask, *handed)
+
+    def test_all_wrong_alike(self):
+        for thing in ANYTHING:
+            self.refused(NoHall, is_stand, thing, thing)
+            self.refused(NoHall, is_beat, thing, thing)
+            self.refused(NoHall, is_plan, thing, thing)
+            self.refused(NoHall, by_beat, thing, thing, thing)
+            self.refused(NoHall, by_plan, thing, thing, thing, thing)
+            self.refused(NoHall, comes_round, thing, thing, thing)
+
+    def test_changed_halls(self):
+        for thing in changed(HALL):
+            if not is_hall(thing):
+                self.refused(NoHall, full, thing)
+                self.refused(NoHall, by_beat, thing, STAND, BEAT)
+
+    def test_a_stand_a_beat_or_a_plan_of_another_hall(self):
+        other = (2, (ONE,))
+        self.refused(NoStand, by_beat, other, STAND, BEAT)
+        self.refused(NoBeat, by_beat, other, ((0,), (0,)), BEAT)
+        self.refused(NoPlan, comes_round, other, ((0,), (0,)), PLAN)
+
+    def test_counts_at_their_bounds(self):
+        for beats in (0, 1, 10 ** 18):
+            self.assertIs(is_stand(HALL, by_plan(HALL, STAND, PLAN, beats)), True)
+        for beats in (-1, 10 ** 18 + 1):
+            self.refused(NoCount, by_plan, HALL, STAND, PLAN, beats)
+
+    def test_refusing_changes_nothing_and_is_the_same_twice(self):
+        for thing in ANYTHING + [list(STAND), list(PLAN), ([[0, 1, 0]],)]:
+            before = copy.deepcopy(thing)
+            text = written(thing)
+            for kind, ask, handed in (
+                (NoHall, full, (thing,)),
+                (NoStand, by_beat, (HALL, thing, BEAT)),
+            ):
+                self.refused(kind, ask, *handed)
+                self.refused(kind, ask, *handed)
+            for ask, handed in (
+                (is_hall, (thing,)), (is_stand, (HALL, thing)), (is_beat, (HALL, thing)), (is_plan, (HALL, thing)),
+            ):
+                self.assertIs(ask(*handed), ask(*handed))
+            self.assertEqual(thing, before)
+            self.assertEqual(written(thing), text)
+
+
+if __name__ == "__main__":
+    unittest.main()
