@@ -33,9 +33,10 @@ def after_beat(hall, stand, beat):
     folk, things = hall
     levels = [list(row) for row in stand]
     used = [[False for level in row] for row in stand]
-    for one, other, thing in beat:
-        if is_lesson(things, levels, (one, other, thing)):
-            learn(things, levels, (one, other, thing))
+    for meeting in beat:
+        if is_lesson(things, levels, meeting):
+            learn(things, levels, meeting)
+            one, other, thing = meeting
             # A lesson at the cap raises nothing, but the thing is used all the same.
             used[one][thing] = True
             used[other][thing] = True

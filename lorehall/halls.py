@@ -1,7 +1,7 @@
 """Halls, and what is a stand, a beat or a plan of one.
 
-The check functions refuse what is none. They take the hall to be checked
-already, so that refusals come in the order of the arguments.
+The check functions refuse what is none. Callers use one for each argument,
+in the order of the arguments, so that the first wrong one is refused.
 """
 
 from lorehall.errors import NoBeat, NoHall, NoPlan, NoStand
