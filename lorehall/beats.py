@@ -43,6 +43,19 @@ def after_beat(hall, stand, beat):
     return tuple([waned(things, levels[who], used[who]) for who in range(folk)])
 
 
+def walk_plan(hall, stand, plan):
+    """Tell the stands ahead of each beat of the plan, gone through once, and the one behind the last."""
+    stands = [stand]
+    for beat in plan:
+        stands.append(after_beat(hall, stands[-1], beat))
+    return stands
+
+
+def after_plan(hall, stand, plan):
+    """Tell the stand behind all beats of the plan, one after the other."""
+    return walk_plan(hall, stand, plan)[-1]
+
+
 def walk_round(hall, stand, plan):
     """Tell (stands, first): the stands behind 0, 1, 2 .. beats till all comes round.
 

@@ -4,7 +4,7 @@ The check functions refuse what is none. Callers use one for each argument,
 in the order of the arguments, so that the first wrong one is refused.
 """
 
-from lorehall.errors import NoBeat, NoHall, NoPlan, NoStand
+from lorehall.errors import NoBeat, NoHall, NoPlan, NoStand, NoThing
 
 LEAST_FOLK = 2
 MOST_FOLK = 4
@@ -146,3 +146,10 @@ def check_plan(hall, plan):
     """Refuse what is no plan of the hall."""
     if not is_plan(hall, plan):
         raise NoPlan("this is no plan of the hall")
+
+
+def check_thing(hall, thing):
+    """Refuse what is no place of a thing of the hall."""
+    folk, things = hall
+    if not is_whole(thing, 0, len(things) - 1):
+        raise NoThing("this is no place of a thing of the hall")

@@ -123,6 +123,11 @@ def some_plan(chance, hall):
     return tuple(some_beat(chance, hall) for _ in range(chance.randint(1, 4)))
 
 
+def some_less(chance, stand):
+    """A stand than which the other one is no less."""
+    return tuple(tuple(chance.randint(0, level) for level in row) for row in stand)
+
+
 def samples(seed, many, **bounds):
     """So many (hall, stand, plan), the same ones each time."""
     chance = random.Random(seed)
@@ -172,3 +177,65 @@ def slow_round(hall, stand, plan):
         if coming in walked:
             return walked.index(coming), len(walked) - walked.index(coming)
         walked.append(coming)
+
+
+def slow_plan(hall, stand, plan):
+    """The stand behind all beats of the plan, one after the other."""
+    return slow_walk(hall, stand, plan, len(plan))[-1]
+
+
+def slow_kept(hall, stand, plan):
+    """The things that somebody knows at each beat till all has come round."""
+    first, long = slow_round(hall, stand, plan)
+    walked = slow_walk(hall, stand, plan, first + long)
+    return [
+        thing for thing in range(len(hall[1]))
+        if not [passed for passed in walked if sum(row[thing] for row in passed) == 0]
+    ]
+
+
+def slow_full(hall):
+    return tuple(tuple(cap for _, _, cap, _ in hall[1]) for _ in range(hall[0]))
+
+
+def slow_fall(hall, plan):
+    """What the full stand comes to behind 0, 1, 2 .. whole plans, till it stays."""
+    stands = [slow_full(hall)]
+    while slow_plan(hall, stands[-1], plan) not in stands:
+        stands.append(slow_plan(hall, stands[-1], plan))
+    # By what the document promises nothing but the last one can come again.
+    assert slow_plan(hall, stands[-1], plan) == stands[-1]
+    return stands
+
+
+def slow_is_stand(hall, thing):
+    folk, things = hall
+    if type(thing) is not tuple or len(thing) != folk:
+        return False
+    for row in thing:
+        if type(row) is not tuple or len(row) != len(things):
+            return False
+        for level, (_, _, cap, _) in zip(row, things):
+            if type(level) is not int or level not in range(cap + 1):
+                return False
+    return True
+
+
+def slow_shown(hall, plan, thing, paper):
+    """Whether anything is a paper that the thing is lost, word by word as the document says it."""
+    if type(paper) is not list or len(paper) < 1:
+        return False
+    for stand in paper:
+        if not slow_is_stand(hall, stand):
+            return False
+    if paper[0] != slow_full(hall):
+        return False
+    for at in range(1, len(paper)):
+        if not no_less(paper[at], slow_plan(hall, paper[at - 1], plan)):
+            return False
+    if not no_less(paper[-1], slow_plan(hall, paper[-1], plan)):
+        return False
+    for stand in slow_walk(hall, paper[-1], plan, len(plan)):
+        if {row[thing] for row in stand} == {0}:
+            return True
+    return False

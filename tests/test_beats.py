@@ -7,7 +7,7 @@ from lorehall.beats import by_beat, by_plan, comes_round
 from lorehall.halls import bare, full, is_stand
 from tests.helper import (
     all_beats, all_stands, no_less, samples, slow_beat, slow_round, slow_walk, some_beat, some_hall,
-    some_stand, written,
+    some_less, some_stand, written,
 )
 
 FAR = 10 ** 18
@@ -124,7 +124,7 @@ class TestNeverLess(unittest.TestCase):
     def test_plans_from_more_and_less(self):
         chance = random.Random(13)
         for hall, stand, plan in samples(14, 500):
-            less = tuple(tuple(chance.randint(0, level) for level in row) for row in stand)
+            less = some_less(chance, stand)
             for beats in (0, 1, 2, 3, 5, 8, 13, FAR):
                 more_told = by_plan(hall, stand, plan, beats)
                 less_told = by_plan(hall, less, plan, beats)

@@ -5,8 +5,11 @@ import itertools
 import unittest
 
 from lorehall.beats import by_beat, by_plan, comes_round
-from lorehall.errors import LoreError, NoBeat, NoCount, NoHall, NoPlan, NoStand
+from lorehall.errors import LoreError, NoBeat, NoCount, NoHall, NoPlan, NoStand, NoThing, TooMany
 from lorehall.halls import bare, full, is_beat, is_hall, is_plan, is_stand
+from lorehall.kept import can_be_kept, greatest, kept_from
+from lorehall.least import least_from
+from lorehall.lost import lost_paper, lost_shown
 from tests.helper import ANYTHING, FORTY_FIGURES, changed, written
 
 ONE = ((), 1, 1, 1)
@@ -29,12 +32,16 @@ NO_PLANS = [thing for thing in ANYTHING if written(thing) not in ("((),)", "((),
 NO_COUNTS = [thing for thing in ANYTHING if not isinstance(thing, int)] + [
     -1, 10 ** 18 + 1, FORTY_FIGURES, -FORTY_FIGURES, True, False,
 ]
+NO_THINGS = [thing for thing in ANYTHING if not isinstance(thing, int)] + [
+    2, 3, -1, 10 ** 18, FORTY_FIGURES, -FORTY_FIGURES, True, False,
+]
 
 HALLS = (HALL, NO_HALLS, NoHall)
 STANDS = (STAND, NO_STANDS, NoStand)
 BEATS = (BEAT, NO_BEATS, NoBeat)
 PLANS = (PLAN, NO_PLANS, NoPlan)
 COUNTS = (3, NO_COUNTS, NoCount)
+THINGS = (1, NO_THINGS, NoThing)
 # What is asked about is never refused.
 ASKED = (STAND, [], LoreError)
 
@@ -47,6 +54,12 @@ ASKERS = [
     (by_beat, [HALLS, STANDS, BEATS]),
     (by_plan, [HALLS, STANDS, PLANS, COUNTS]),
     (comes_round, [HALLS, STANDS, PLANS]),
+    (kept_from, [HALLS, STANDS, PLANS]),
+    (can_be_kept, [HALLS, PLANS]),
+    (greatest, [HALLS, PLANS]),
+    (lost_paper, [HALLS, PLANS, THINGS]),
+    (lost_shown, [HALLS, PLANS, THINGS, ASKED]),
+    (least_from, [HALLS, PLANS, THINGS]),
 ]
 
 
@@ -85,12 +98,8 @@ class TestRefusals(unittest.TestCase):
 
     def test_all_wrong_alike(self):
         for thing in ANYTHING:
-            self.refused(NoHall, is_stand, thing, thing)
-            self.refused(NoHall, is_beat, thing, thing)
-            self.refused(NoHall, is_plan, thing, thing)
-            self.refused(NoHall, by_beat, thing, thing, thing)
-            self.refused(NoHall, by_plan, thing, thing, thing, thing)
-            self.refused(NoHall, comes_round, thing, thing, thing)
+            for ask, places in ASKERS:
+                self.refused(NoHall, ask, *[thing for _ in places])
 
     def test_changed_halls(self):
         for thing in changed(HALL):
@@ -109,6 +118,42 @@ class TestRefusals(unittest.TestCase):
             self.assertIs(is_stand(HALL, by_plan(HALL, STAND, PLAN, beats)), True)
         for beats in (-1, 10 ** 18 + 1):
             self.refused(NoCount, by_plan, HALL, STAND, PLAN, beats)
+
+    def test_a_place_of_a_thing_at_its_bounds(self):
+        for ask in (lost_paper, least_from, lambda *handed: lost_shown(*handed, [])):
+            for many in (1, 2, 3):
+                hall = (2, (ONE,) * many)
+                for thing in range(many):
+                    ask(hall, ((),), thing)
+                for thing in (-1, many, many + 1, True, False, None, "0", (0,), [0], FORTY_FIGURES):
+                    self.refused(NoThing, ask, hall, ((),), thing)
+
+    def test_whatever_is_asked_about_is_not_refused(self):
+        for thing in ANYTHING + NO_STANDS + NO_PLANS:
+            for ask, handed in (
+                (is_stand, (HALL, thing)), (is_beat, (HALL, thing)), (is_plan, (HALL, thing)),
+                (lost_shown, (HALL, PLAN, 1, thing)), (lost_shown, (HALL, PLAN, 1, [thing])),
+            ):
+                self.assertIs(type(ask(*handed)), bool, (ask.__name__, thing))
+
+    def test_too_many_comes_behind_all_else(self):
+        great = (4, (((), 1, 3, 1),) * 3)
+        self.refused(TooMany, least_from, great, ((),), 0)
+        for plan in NO_PLANS:
+            self.refused(NoPlan, least_from, great, plan, 0)
+            self.refused(NoPlan, least_from, great, plan, 3)
+        for thing in [3, -1, True, False, None, "0", (0,), FORTY_FIGURES]:
+            self.refused(NoThing, least_from, great, ((),), thing)
+        self.refused(NoHall, least_from, list(great), ((),), 0)
+        self.refused(NoHall, least_from, (5, great[1]), ((),), 0)
+
+    def test_great_halls_are_refused_nowhere_else(self):
+        great = (4, (((), 1, 3, 1),) * 3)
+        self.assertEqual(can_be_kept(great, ((),)), [])
+        self.assertEqual(kept_from(great, full(great), ((),)), [])
+        self.assertEqual(greatest(great, ((),)), bare(great))
+        self.assertEqual(len(lost_paper(great, ((),), 2)), 4)
+        self.assertIs(lost_shown(great, ((),), 2, lost_paper(great, ((),), 2)), True)
 
     def test_refusing_changes_nothing_and_is_the_same_twice(self):
         for thing in ANYTHING + [list(STAND), list(PLAN), ([[0, 1, 0]],)]:
