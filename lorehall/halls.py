@@ -4,7 +4,7 @@ The check functions refuse what is none. Callers use one for each argument,
 in the order of the arguments, so that the first wrong one is refused.
 """
 
-from lorehall.errors import NoBeat, NoHall, NoPlan, NoStand, NoThing
+from lorehall.errors import NoBeat, NoHall, NoMeeting, NoPlan, NoStand, NoThing
 
 LEAST_FOLK = 2
 MOST_FOLK = 4
@@ -153,3 +153,9 @@ def check_thing(hall, thing):
     folk, things = hall
     if not is_whole(thing, 0, len(things) - 1):
         raise NoThing("this is no place of a thing of the hall")
+
+
+def check_meeting(hall, meeting):
+    """Refuse what is no meeting of the hall."""
+    if not is_meeting(hall, meeting):
+        raise NoMeeting("this is no meeting of the hall")

@@ -76,6 +76,23 @@ def all_halls():
                 yield (folk, things)
 
 
+def halls_of_all_sizes():
+    """A hall for each number of folk and each row of caps."""
+    for folk in (2, 3, 4):
+        for many in (1, 2, 3):
+            for caps in itertools.product((1, 2, 3), repeat=many):
+                yield (folk, tuple(((), 1, cap, 1) for cap in caps))
+
+
+def how_many(hall):
+    """How many stands a hall has."""
+    folk, things = hall
+    many = 1
+    for _, _, cap, _ in things * folk:
+        many *= cap + 1
+    return many
+
+
 def all_stands(hall):
     folk, things = hall
     rows = list(itertools.product(*[range(cap + 1) for _, _, cap, _ in things]))
@@ -239,3 +256,102 @@ def slow_shown(hall, plan, thing, paper):
         if {row[thing] for row in stand} == {0}:
             return True
     return False
+
+
+def slow_row(hall, stand, row):
+    """The stand behind meetings one behind the other where nothing wanes: as by a beat, were there no loss."""
+    folk, things = hall
+    return slow_beat((folk, tuple((needs, teach, cap, 0) for needs, teach, cap, _ in things)), stand, row)
+
+
+def slow_reached(hall, stand):
+    """All stands to which some row leads."""
+    found = {stand}
+    new = [stand]
+    while new:
+        tried = [slow_row(hall, passed, (meeting,)) for passed in new for meeting in all_meetings(hall)]
+        new = sorted(set(tried) - found)
+        found.update(new)
+    return found
+
+
+def slow_stay(hall, stand):
+    """The one stand to which some row leads and that no meeting changes."""
+    staying = [
+        passed for passed in slow_reached(hall, stand)
+        if {slow_row(hall, passed, (meeting,)) for meeting in all_meetings(hall)} == {passed}
+    ]
+    # By what the document promises there is just one.
+    assert len(staying) == 1
+    return staying[0]
+
+
+def slow_fewest(hall, stand, wish, known):
+    """The fewest meetings from the stand to the wish, counted back from it; None where no row is."""
+    if stand not in known and no_less(stand, wish):
+        known[stand] = 0
+    elif stand not in known:
+        behind = {slow_row(hall, stand, (meeting,)) for meeting in all_meetings(hall)} - {stand}
+        counts = [slow_fewest(hall, passed, wish, known) for passed in behind]
+        known[stand] = min([count + 1 for count in counts if count is not None], default=None)
+    return known[stand]
+
+
+def slow_lessons(hall, stand, wish):
+    """The first row of the fewest meetings, each chosen as the first that brings the wish one meeting nearer."""
+    known = {}
+    fewest = slow_fewest(hall, stand, wish, known)
+    if fewest is None:
+        return ("stay", slow_stay(hall, stand))
+    row = []
+    for left in range(fewest, 0, -1):
+        for meeting in all_meetings(hall):
+            passed = slow_row(hall, stand, (meeting,))
+            if slow_fewest(hall, passed, wish, known) == left - 1:
+                row.append(meeting)
+                stand = passed
+                break
+    return ("row", row)
+
+
+def slow_is_meeting(hall, thing):
+    if type(thing) is not tuple or [type(part) for part in thing] != [int, int, int]:
+        return False
+    return thing in all_meetings(hall)
+
+
+def slow_is_shown(hall, stand, wish, paper):
+    """Whether anything shows that lessons bring the wish, or that none do, word by word as the document says it."""
+    if type(paper) is not tuple or len(paper) != 2:
+        return False
+    word, shown = paper
+    if type(word) is not str:
+        return False
+    if word == "row":
+        if type(shown) is not list or [thing for thing in shown if not slow_is_meeting(hall, thing)]:
+            return False
+        return no_less(slow_row(hall, stand, shown), wish)
+    if word != "stay" or not slow_is_stand(hall, shown):
+        return False
+    return shown == slow_stay(hall, stand) and not no_less(shown, wish)
+
+
+def slow_parted(hall, one, other):
+    """(beats, stand) or None, each stand walked by both plans till both have come round together."""
+    found = []
+    for stand in all_stands(hall):
+        walked = {(stand, stand, 0, 0): 0}
+        now = (stand, stand, 0, 0)
+        while True:
+            by_one, by_other, at, other_at = now
+            now = (
+                slow_beat(hall, by_one, one[at]), slow_beat(hall, by_other, other[other_at]),
+                (at + 1) % len(one), (other_at + 1) % len(other),
+            )
+            if now[0] != now[1]:
+                found.append((len(walked), stand))
+                break
+            if now in walked:
+                break
+            walked[now] = len(walked)
+    return min(found, default=None)

@@ -9,26 +9,12 @@ from lorehall.halls import bare, is_stand
 from lorehall.kept import can_be_kept, kept_from
 from lorehall.least import least_from
 from lorehall.stands import all_stands as package_stands
-from tests.helper import all_stands, no_less, samples, slow_full, slow_kept, some_plan, written
+from tests.helper import (
+    all_stands, halls_of_all_sizes, how_many, no_less, samples, slow_full, slow_kept, some_plan, written,
+)
 
 SMALL = {"most_folk": 2, "most_things": 2, "most_cap": 2}
 HANDED_ON = (((0, 1, 0),), ((1, 2, 0),), ((2, 0, 0),))
-
-
-def halls_of_all_sizes():
-    """A hall for each number of folk and each row of caps."""
-    for folk in (2, 3, 4):
-        for many in (1, 2, 3):
-            for caps in itertools.product((1, 2, 3), repeat=many):
-                yield (folk, tuple(((), 1, cap, 1) for cap in caps))
-
-
-def how_many(hall):
-    folk, things = hall
-    many = 1
-    for _, _, cap, _ in things * folk:
-        many *= cap + 1
-    return many
 
 
 def slow_least(hall, plan, thing):

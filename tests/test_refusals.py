@@ -5,11 +5,14 @@ import itertools
 import unittest
 
 from lorehall.beats import by_beat, by_plan, comes_round
-from lorehall.errors import LoreError, NoBeat, NoCount, NoHall, NoPlan, NoStand, NoThing, TooMany
+from lorehall.errors import LoreError, NoBeat, NoCount, NoHall, NoMeeting, NoPlan, NoStand, NoThing, TooMany
 from lorehall.halls import bare, full, is_beat, is_hall, is_plan, is_stand
 from lorehall.kept import can_be_kept, greatest, kept_from
 from lorehall.least import least_from
+from lorehall.lessons import is_shown, lessons
 from lorehall.lost import lost_paper, lost_shown
+from lorehall.orders import ahead, are_free, ends
+from lorehall.plans import parted
 from tests.helper import ANYTHING, FORTY_FIGURES, changed, written
 
 ONE = ((), 1, 1, 1)
@@ -36,12 +39,18 @@ NO_THINGS = [thing for thing in ANYTHING if not isinstance(thing, int)] + [
     2, 3, -1, 10 ** 18, FORTY_FIGURES, -FORTY_FIGURES, True, False,
 ]
 
+NO_MEETINGS = [thing for thing in ANYTHING if written(thing) != "(0, 1, 0)"] + [
+    (0, 0, 0), (0, 3, 0), (3, 0, 0), (-1, 0, 0), (0, -1, 0), (0, 1, 2), (0, 1, -1), (0, True, 0), (0, 1, True),
+    (False, 1, 0), (0, 1), (0, 1, 0, 0), [0, 1, 0], ((0, 1, 0),), (0, 1, None), (0, 1, "0"), (0, 1, (0,)), BEAT,
+]
+
 HALLS = (HALL, NO_HALLS, NoHall)
 STANDS = (STAND, NO_STANDS, NoStand)
 BEATS = (BEAT, NO_BEATS, NoBeat)
 PLANS = (PLAN, NO_PLANS, NoPlan)
 COUNTS = (3, NO_COUNTS, NoCount)
 THINGS = (1, NO_THINGS, NoThing)
+MEETINGS = ((0, 1, 0), NO_MEETINGS, NoMeeting)
 # What is asked about is never refused.
 ASKED = (STAND, [], LoreError)
 
@@ -60,7 +69,26 @@ ASKERS = [
     (lost_paper, [HALLS, PLANS, THINGS]),
     (lost_shown, [HALLS, PLANS, THINGS, ASKED]),
     (least_from, [HALLS, PLANS, THINGS]),
+    (lessons, [HALLS, STANDS, STANDS]),
+    (is_shown, [HALLS, STANDS, STANDS, ASKED]),
+    (ends, [HALLS, STANDS, BEATS]),
+    (are_free, [HALLS, MEETINGS, MEETINGS]),
+    (ahead, [HALLS, STANDS, BEATS]),
+    (parted, [HALLS, PLANS, PLANS]),
 ]
+# Those that look through all stands of a hall.
+LOOKERS = [least_from, lessons, are_free, ahead, parted]
+
+
+def is_right(hall, kind, thing):
+    """Whether what is wrong of HALL is right of another hall."""
+    if kind is NoHall:
+        return is_hall(thing)
+    if kind is NoThing:
+        return type(thing) is int and thing in range(len(hall[1]))
+    if kind is NoMeeting:
+        return is_beat(hall, (thing,))
+    return {NoStand: is_stand, NoBeat: is_beat, NoPlan: is_plan}[kind](hall, thing)
 
 
 class TestRefusals(unittest.TestCase):
@@ -133,19 +161,25 @@ class TestRefusals(unittest.TestCase):
             for ask, handed in (
                 (is_stand, (HALL, thing)), (is_beat, (HALL, thing)), (is_plan, (HALL, thing)),
                 (lost_shown, (HALL, PLAN, 1, thing)), (lost_shown, (HALL, PLAN, 1, [thing])),
+                (is_shown, (HALL, STAND, STAND, thing)), (is_shown, (HALL, STAND, STAND, (thing, thing))),
+                (is_shown, (HALL, STAND, STAND, ("row", thing))), (is_shown, (HALL, STAND, STAND, ("row", [thing]))),
+                (is_shown, (HALL, STAND, STAND, ("stay", thing))), (is_shown, (HALL, STAND, STAND, ("stay", (thing,)))),
             ):
                 self.assertIs(type(ask(*handed)), bool, (ask.__name__, thing))
 
     def test_too_many_comes_behind_all_else(self):
         great = (4, (((), 1, 3, 1),) * 3)
-        self.refused(TooMany, least_from, great, ((),), 0)
-        for plan in NO_PLANS:
-            self.refused(NoPlan, least_from, great, plan, 0)
-            self.refused(NoPlan, least_from, great, plan, 3)
-        for thing in [3, -1, True, False, None, "0", (0,), FORTY_FIGURES]:
-            self.refused(NoThing, least_from, great, ((),), thing)
-        self.refused(NoHall, least_from, list(great), ((),), 0)
-        self.refused(NoHall, least_from, (5, great[1]), ((),), 0)
+        right = {NoHall: great, NoStand: full(great), NoBeat: BEAT, NoPlan: PLAN, NoThing: 0, NoMeeting: (3, 0, 2)}
+        for ask, places in ASKERS:
+            if ask not in LOOKERS:
+                continue
+            handed = [right[kind] for _, _, kind in places]
+            self.refused(TooMany, ask, *handed)
+            for at, (_, wrong, kind) in enumerate(places):
+                for thing in wrong:
+                    if not is_right(great, kind, thing):
+                        self.refused(kind, ask, *handed[:at], thing, *handed[at + 1:])
+                        self.refused(kind, ask, *handed[:at], *[thing for _ in places[at:]])
 
     def test_great_halls_are_refused_nowhere_else(self):
         great = (4, (((), 1, 3, 1),) * 3)
@@ -154,6 +188,9 @@ class TestRefusals(unittest.TestCase):
         self.assertEqual(greatest(great, ((),)), bare(great))
         self.assertEqual(len(lost_paper(great, ((),), 2)), 4)
         self.assertIs(lost_shown(great, ((),), 2, lost_paper(great, ((),), 2)), True)
+        self.assertIs(is_shown(great, full(great), full(great), ("row", [])), True)
+        self.assertIs(is_shown(great, bare(great), full(great), ("stay", bare(great))), True)
+        self.assertEqual(ends(great, full(great), ()), [((2, 2, 2),) * 4])
 
     def test_refusing_changes_nothing_and_is_the_same_twice(self):
         for thing in ANYTHING + [list(STAND), list(PLAN), ([[0, 1, 0]],)]:
